@@ -1,0 +1,1 @@
+"""Sparse tables of derivatives."""

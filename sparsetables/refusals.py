@@ -1,0 +1,21 @@
+"""The refusals: an error class for each, raised where a call can't be taken."""
+
+
+class OutOfRange(Exception):
+    # Told as -1.
+    pass
+
+
+class WrongForm(Exception):
+    # Told as -2.
+    pass
+
+
+class UseNotThere(Exception):
+    # Told as -3.
+    pass
+
+
+class TooMany(Exception):
+    # Told as -7.
+    pass

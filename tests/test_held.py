@@ -66,4 +66,5 @@ class Fractions(unittest.TestCase):
         self.assertEqual(times((-2, 3), (0, 1)), (0, 1))
         self.assertEqual(over((1, 2), (-3, 4)), (-2, 3))
         self.assertEqual(over((0, 1), (-3, 4)), (0, 1))
+        self.assertEqual(over((3, 1), (-1, 1)), (-3, 1))
         self.assertEqual(opposite((-3, 4)), (3, 4))

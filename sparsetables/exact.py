@@ -2,6 +2,9 @@
 
 from sparsetables.refusals import WrongForm
 
+NOUGHT = (0, 1)
+ONE = (1, 1)
+
 
 def common_divisor(first, second):
     while second != 0:
@@ -12,15 +15,16 @@ def common_divisor(first, second):
 
 
 def lowest_terms(top, bottom):
-    divisor = common_divisor(abs(top), abs(bottom))
-    # Dividing by a fraction below 0 brings its sign into the denominator.
-    if bottom < 0:
-        divisor = -divisor
+    divisor = common_divisor(abs(top), bottom)
     return (top // divisor, bottom // divisor)
 
 
 def plus(first, second):
-    return lowest_terms(first[0] * second[1] + second[0] * first[1], first[1] * second[1])
+    shared = common_divisor(first[1], second[1])
+    top = first[0] * (second[1] // shared) + second[0] * (first[1] // shared)
+    # Of both denominators' product only what they share can have more in common with the top.
+    rest = common_divisor(abs(top), shared)
+    return (top // rest, first[1] // shared * (second[1] // rest))
 
 
 def opposite(fraction):
@@ -32,11 +36,20 @@ def minus(first, second):
 
 
 def times(first, second):
-    return lowest_terms(first[0] * second[0], first[1] * second[1])
+    # Crosswise ahead of the products: heavy numbers are then only divided by light ones.
+    one = lowest_terms(first[0], second[1])
+    other = lowest_terms(second[0], first[1])
+    return (one[0] * other[0], one[1] * other[1])
+
+
+def turned_over(fraction):
+    if fraction[0] < 0:
+        return (-fraction[1], -fraction[0])
+    return (fraction[1], fraction[0])
 
 
 def over(first, second):
-    return lowest_terms(first[0] * second[1], first[1] * second[0])
+    return times(first, turned_over(second))
 
 
 def weight(fraction):

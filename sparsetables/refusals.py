@@ -19,3 +19,23 @@ class UseNotThere(Exception):
 class TooMany(Exception):
     # Told as -7.
     pass
+
+
+class NoPoint(Exception):
+    # Told as -4.
+    pass
+
+
+class RunFault(Exception):
+    # Told as -5.
+    pass
+
+
+class NotProper(Exception):
+    # Told as -8.
+    pass
+
+
+class TooHeavy(Exception):
+    # Told as -6.
+    pass

@@ -96,3 +96,24 @@ def first_clash(met, colours):
         if colours[pair[0]] == colours[pair[1]]:
             return pair
     return None
+
+
+# Tries one colouring after another: only for few columns.
+def fewest_colours(met):
+    count = 0
+    while not can_be_coloured(met, [], count):
+        count += 1
+    return count
+
+
+# Whether the colours begun with can be gone on with to a proper colouring by so many colours.
+def can_be_coloured(met, begun, count):
+    column = len(begun)
+    if column == len(met):
+        return True
+    near = [begun[other] for other in met[column] if other < column]
+    # Colours that aren't in use yet are all alike, so only the first of them is tried.
+    for colour in range(min(count, colour_count(begun) + 1)):
+        if colour not in near and can_be_coloured(met, begun + [colour], count):
+            return True
+    return False

@@ -1,5 +1,7 @@
 """Writes calls down as numbers, asks them in one list, and splits the answers up again."""
 
+from fractions import Fraction
+
 from sparsetables.tables import answers
 
 GREATEST = 10 ** 18
@@ -31,6 +33,39 @@ def colours(side, k):
 
 def check(side, given):
     return [6, side, len(given)] + list(given)
+
+
+def least(side):
+    return [7, side]
+
+
+def plan():
+    return [8]
+
+
+def dense():
+    return [9]
+
+
+def packed(side, k):
+    return [10, side, k]
+
+
+def table(side, k):
+    return [11, side, k]
+
+
+def apart(given):
+    return [12, len(given)] + list(given)
+
+
+def told(rows):
+    """What is answered for a table of these rows of whole numbers and Fractions; it has at least one row."""
+    numbers = [len(rows), len(rows[0])]
+    for row in rows:
+        for entry in row:
+            numbers += [Fraction(entry).numerator, Fraction(entry).denominator]
+    return numbers
 
 
 def ask(*calls):

@@ -48,6 +48,58 @@ def pattern(lines, outs, n):
     return told
 
 
+def row_of(lines, values, out, n):
+    """The out's row of the table, worked out backwards: how much of each line's change comes into the out's."""
+    share = [Fraction(int(number == out)) for number in range(len(lines))]
+    row = [Fraction(0)] * n
+    for number in range(out, -1, -1):
+        kind, first, second = (tuple(lines[number]) + (0,))[:3]
+        mine = share[number]
+        if kind == 0:
+            row[first] += mine
+        elif kind == 6:
+            share[first] -= mine
+        elif kind > 1:
+            a, b = values[first], values[second]
+            by_first, by_second = {2: (1, 1), 3: (1, -1), 4: (b, a)}.get(kind) or (1 / b, -a / b ** 2)
+            share[first] += mine * by_first
+            share[second] += mine * by_second
+    return row
+
+
+def whole(lines, inputs, outs):
+    """The program's table; it is only asked where the run has no fault."""
+    values = []
+    for line in lines:
+        values.append(work_out(line, values, inputs))
+    return [row_of(lines, values, out, len(inputs)) for out in outs]
+
+
+def turned(rows, n):
+    return [[row[k] for row in rows] for k in range(n)]
+
+
+def told(rows, columns):
+    entries = [entry for row in rows for entry in row]
+    if any(weight(entry) > 4000 for entry in entries):
+        return [-6]
+    return [len(rows), columns] + [number for entry in entries for number in (entry.numerator, entry.denominator)]
+
+
+def packed_rows(rows, n, given):
+    """By linearity a packed table is the table with its rows (or columns, where it is turned) added up."""
+    colours = range(max(given, default=-1) + 1)
+    return [[sum((row[k] for row, its in zip(rows, given) if its == c), Fraction(0)) for k in range(n)]
+            for c in colours]
+
+
+def packed(rows, n, side, given):
+    if side:
+        return told(packed_rows(rows, n, given), n)
+    colours = max(given, default=-1) + 1
+    return told(turned(packed_rows(turned(rows, n), len(rows), given), len(rows)), colours)
+
+
 class Side:
     def __init__(self, lines, outs, n, side):
         rows = hangs(lines, outs)
@@ -86,3 +138,19 @@ class Side:
     def check(self, given):
         clashes = [[0, a, b] for a, b in self.pairs if given[a] == given[b]]
         return clashes[0] if clashes else [1]
+
+    def least(self):
+        """By sets of columns: each needs one colour more than what is left without some that don't meet."""
+        if self.size > 8:
+            return [-7]
+        some = [frozenset(c) for size in range(1, self.size + 1) for c in combinations(range(self.size), size)]
+        alike = [part for part in some if not any(part.issuperset(pair) for pair in self.pairs)]
+        needs = {frozenset(): 0}
+        for columns in some:
+            needs[columns] = 1 + min(needs[columns - part] for part in alike if part <= columns)
+        return [needs[frozenset(range(self.size))]]
+
+
+def plan(sides):
+    choices = [(side, k, sides[side].colours(k)[0]) for side in (0, 1) for k in (0, 1, 2)]
+    return list(min(choices, key=lambda choice: choice[2]))

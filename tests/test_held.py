@@ -1,6 +1,7 @@
-"""What the calls so far can't show: the point that is held, and fractions by themselves."""
+"""Parts by themselves: the point that is held, and fractions."""
 
 import unittest
+from fractions import Fraction
 
 from sparsetables.answering import answer_call
 from sparsetables.exact import lowest_terms, minus, opposite, over, plus, times, weight
@@ -68,3 +69,14 @@ class Fractions(unittest.TestCase):
         self.assertEqual(over((0, 1), (-3, 4)), (0, 1))
         self.assertEqual(over((3, 1), (-1, 1)), (-3, 1))
         self.assertEqual(opposite((-3, 4)), (3, 4))
+
+    def test_lowest_terms_against_pythons_own(self):
+        fractions = [Fraction(top, bottom) for top in range(-7, 8) for bottom in range(1, 13)]
+        for one in fractions:
+            for other in fractions:
+                first, second = one.as_integer_ratio(), other.as_integer_ratio()
+                self.assertEqual(plus(first, second), (one + other).as_integer_ratio())
+                self.assertEqual(minus(first, second), (one - other).as_integer_ratio())
+                self.assertEqual(times(first, second), (one * other).as_integer_ratio())
+                if other:
+                    self.assertEqual(over(first, second), (one / other).as_integer_ratio())

@@ -4,7 +4,7 @@ import unittest
 from fractions import Fraction
 
 from sparsetables.answering import answer_call
-from sparsetables.exact import lowest_terms, minus, opposite, over, plus, times, weight
+from sparsetables.exact import lowest_terms, minus, opposite, over, plus, times, turned_over, weight
 from sparsetables.held import Held
 
 
@@ -69,6 +69,7 @@ class Fractions(unittest.TestCase):
         self.assertEqual(over((0, 1), (-3, 4)), (0, 1))
         self.assertEqual(over((3, 1), (-1, 1)), (-3, 1))
         self.assertEqual(opposite((-3, 4)), (3, 4))
+        self.assertEqual([turned_over(f) for f in ((3, 4), (-3, 4), (-1, 1))], [(4, 3), (-4, 3), (-1, 1)])
 
     def test_lowest_terms_against_pythons_own(self):
         fractions = [Fraction(top, bottom) for top in range(-7, 8) for bottom in range(1, 13)]

@@ -99,6 +99,11 @@ class Dense(unittest.TestCase):
         for kind, change in ((2, 2), (3, 0), (4, F(6, 5)), (5, 0)):
             self.assertEqual(self.one_row(1, [0, 0, kind, 0, 0], 1, [3, 5]), told([[change]]), kind)
 
+    def test_opposites(self):
+        self.assertEqual(self.one_row(2, [0, 0, 0, 1, 6, 1], 2, [3, 1, 4, 1]), told([[0, -1]]))
+        self.assertEqual(self.one_row(1, [0, 0, 4, 0, 0, 6, 1, 6, 2], 2, [3, 1]), told([[-6]]))
+        self.assertEqual(self.one_row(1, [0, 0, 4, 0, 0, 6, 1, 6, 2], 3, [3, 1]), told([[6]]))
+
     def test_which_of_two_comes_first(self):
         # Of x and y at 3 and 4: x - y, y - x, x / y, y / x.
         for lines, row in (([3, 0, 1], [1, -1]), ([3, 1, 0], [-1, 1]),
